@@ -1,0 +1,108 @@
+package flow
+
+import (
+	"slices"
+
+	"crosswalk/api"
+	"crosswalk/hier"
+	"crosswalk/span"
+)
+
+// Check answers the fault of a file that is asked whether it may be, and of each of its methods whether that is sound.
+func Check(f api.File, may func(api.File) bool, sound func(api.File, api.Method) bool) api.Fault {
+	if !may(f) {
+		return api.Fault{Code: api.ErrForm}
+	}
+	for k, m := range f.Methods {
+		if !sound(f, m) {
+			return api.Fault{Code: api.ErrKind, Method: k}
+		}
+	}
+	return api.Fault{}
+}
+
+// Flow goes through a method.
+type Flow struct {
+	// State is that of the instruction At, changed as far as it is done.
+	State
+	Classes []api.Class
+	Method  api.Method
+	At      int
+	// Of what nothing leads to there is no state.
+	states  []*State
+	waiting []int
+}
+
+// New answers the flow of a method that has so many slots, locals or registers.
+func New(classes []api.Class, m api.Method, slots int) *Flow {
+	return &Flow{
+		State:   newState(slots, m.Params),
+		Classes: classes,
+		Method:  m,
+		states:  make([]*State, len(m.Code)),
+	}
+}
+
+// Through does each instruction that can be come to, and does it again where less is known than it was done with.
+// It answers false, if that gave up.
+func (w *Flow) Through(do func(api.Ins)) bool {
+	return holds(func() {
+		w.Lead(0)
+		for len(w.waiting) > 0 {
+			w.At = w.waiting[0]
+			w.waiting = w.waiting[1:]
+			w.State = w.states[w.At].copied()
+			do(w.Method.Code[w.At])
+		}
+	})
+}
+
+// Lead leads to an instruction in the state as it is now.
+func (w *Flow) Lead(at int) {
+	w.LeadWith(at, w.Stack...)
+}
+
+// LeadNext leads to the next instruction in the state as it is now.
+func (w *Flow) LeadNext() {
+	w.Lead(w.At + 1)
+}
+
+// LeadWith leads to an instruction with the slots as they are now, and another stack.
+// A broken state is never told: once there is one, the whole method has failed, and giving up tells that.
+func (w *Flow) LeadWith(at int, stack ...Value) {
+	if !span.Numbers(at, len(w.states)) {
+		GiveUp()
+	}
+	s := State{Slots: w.Slots, Stack: stack}
+	old := w.states[at]
+	if old != nil && !old.merge(w.Classes, s) {
+		return
+	}
+	if old == nil {
+		first := s.copied()
+		w.states[at] = &first
+	}
+	if !slices.Contains(w.waiting, at) {
+		w.waiting = append(w.waiting, at)
+	}
+}
+
+// Over answers the handlers over the instruction.
+func (w *Flow) Over() []api.Handler {
+	var over []api.Handler
+	for _, h := range w.Method.Handlers {
+		if span.Within(w.At, h.From, h.To-1) {
+			over = append(over, h)
+		}
+	}
+	return over
+}
+
+// MustFit answers v; it gives up, if v may not be stored as what is of the type.
+func (w *Flow) MustFit(v Value, t api.Type) Value {
+	v.MustBe(t.Kind)
+	if t.Kind == api.KRef && v != Nothing() && !hier.Below(w.Classes, v.Class, t.Class) {
+		GiveUp()
+	}
+	return v
+}
