@@ -36,3 +36,14 @@ func TestP5BoundsAreWithin(t *testing.T) {
 		}
 	}
 }
+
+func TestF1NumbersKeepTheirUpperBits(t *testing.T) {
+	for _, n := range []int64{math.MinInt64, -1 << 32, 1 << 32, 1<<32 + 1, math.MaxInt64} {
+		if span.Numbers(n, 5) || span.Within(n, 0, 5) {
+			t.Errorf("%d is among five", n)
+		}
+	}
+	if !span.Numbers(int64(4), 5) || span.Numbers(int64(5), 5) || !span.Within(int64(5), 0, 5) {
+		t.Error("longs are not held against bounds as ints are")
+	}
+}
