@@ -28,6 +28,11 @@ func Nothing() Value {
 	return Value{Kind: api.KRef}
 }
 
+// RefOf answers the type of references to objects of the class.
+func RefOf(class int) api.Type {
+	return api.Type{Kind: api.KRef, Class: class}
+}
+
 // Truth answers the int that tells whether something is so.
 func Truth(so bool) Value {
 	if so {
