@@ -29,17 +29,20 @@ type Flow struct {
 	Method  api.Method
 	At      int
 	// Of what nothing leads to there is no state.
-	states  []*State
+	states []*State
+	// waiting are the numbers of the instructions that are to be done, the least one first.
 	waiting []int
+	joins   [][]int
 }
 
-// New answers the flow of a method that has so many slots, locals or registers.
+// New answers the flow of a method that has so many slots, locals or registers, with classes that may be.
 func New(classes []api.Class, m api.Method, slots int) *Flow {
 	return &Flow{
 		State:   newState(slots, m.Params),
 		Classes: classes,
 		Method:  m,
 		states:  make([]*State, len(m.Code)),
+		joins:   hier.Joins(classes),
 	}
 }
 
@@ -50,7 +53,7 @@ func (w *Flow) Through(do func(api.Ins)) bool {
 		w.Lead(0)
 		for len(w.waiting) > 0 {
 			w.At = w.waiting[0]
-			w.waiting = w.waiting[1:]
+			w.waiting = slices.Delete(w.waiting, 0, 1)
 			w.State = w.states[w.At].copied()
 			do(w.Method.Code[w.At])
 		}
@@ -67,6 +70,12 @@ func (w *Flow) LeadNext() {
 	w.Lead(w.At + 1)
 }
 
+// Branch leads to an instruction and to the next one, in the state as it is now.
+func (w *Flow) Branch(to int) {
+	w.Lead(to)
+	w.LeadNext()
+}
+
 // LeadWith leads to an instruction with the slots as they are now, and another stack.
 // A broken state is never told: once there is one, the whole method has failed, and giving up tells that.
 func (w *Flow) LeadWith(at int, stack ...Value) {
@@ -75,15 +84,20 @@ func (w *Flow) LeadWith(at int, stack ...Value) {
 	}
 	s := State{Slots: w.Slots, Stack: stack}
 	old := w.states[at]
-	if old != nil && !old.merge(w.Classes, s) {
+	if old != nil && !old.merge(w.joins, s) {
 		return
 	}
 	if old == nil {
 		first := s.copied()
 		w.states[at] = &first
 	}
-	if !slices.Contains(w.waiting, at) {
-		w.waiting = append(w.waiting, at)
+	w.wait(at)
+}
+
+// wait keeps the order of the code, in which most of what leads to an instruction is done ahead of it: else it would be done again for each.
+func (w *Flow) wait(at int) {
+	if k, waits := slices.BinarySearch(w.waiting, at); !waits {
+		w.waiting = slices.Insert(w.waiting, k, at)
 	}
 }
 
@@ -101,8 +115,13 @@ func (w *Flow) Over() []api.Handler {
 // MustFit answers v; it gives up, if v may not be stored as what is of the type.
 func (w *Flow) MustFit(v Value, t api.Type) Value {
 	v.MustBe(t.Kind)
-	if t.Kind == api.KRef && v != Nothing() && !hier.Below(w.Classes, v.Class, t.Class) {
+	if t.Kind == api.KRef && v != Nothing() && !w.below(v.Class, t.Class) {
 		GiveUp()
 	}
 	return v
+}
+
+// below asks the joins: of two classes, one of which is below the other, that other one is the Join.
+func (w *Flow) below(c, d int) bool {
+	return w.joins[c][d] == d
 }

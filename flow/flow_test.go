@@ -107,6 +107,49 @@ func TestWhatNothingLeadsToIsNotDone(t *testing.T) {
 	}
 }
 
+func TestBranchLeadsBothWays(t *testing.T) {
+	w := newFlow(4)
+	var done []int
+	ok := w.Through(func(api.Ins) {
+		done = append(done, w.At)
+		if w.At == 0 {
+			w.Branch(3)
+		}
+	})
+	if !ok || !slices.Equal(done, []int{0, 1, 3}) {
+		t.Errorf("%v, done: %v", ok, done)
+	}
+	w = newFlow(2)
+	if w.Through(func(api.Ins) { w.Branch(w.At) }) {
+		t.Error("the last one has no next one")
+	}
+}
+
+// Two ways that come together are both gone ahead of what is behind them: so that is done once.
+func TestDoneInTheOrderOfTheCode(t *testing.T) {
+	w := newFlow(6)
+	var done []int
+	w.Through(func(api.Ins) {
+		done = append(done, w.At)
+		switch w.At {
+		case 0:
+			w.Branch(3)
+		case 1:
+			w.Write(0, flow.Ref(5))
+			w.Lead(5)
+		case 3:
+			w.Write(0, flow.Ref(6))
+			w.Branch(5)
+		case 4:
+			w.Write(0, flow.Ref(4))
+			w.LeadNext()
+		}
+	})
+	if !slices.Equal(done, []int{0, 1, 3, 4, 5}) {
+		t.Errorf("done: %v", done)
+	}
+}
+
 // An instruction is done once more where less is known, and only there.
 func TestDoneAgainWhereLessIsKnown(t *testing.T) {
 	w := newFlow(2)

@@ -56,12 +56,12 @@ func (s *State) lose(at int) {
 }
 
 // merge makes s both together of s and of another state, and answers whether it says less then than it did.
-func (s *State) merge(classes []api.Class, other State) bool {
+func (s *State) merge(joins [][]int, other State) bool {
 	if len(s.Stack) != len(other.Stack) {
 		GiveUp()
 	}
-	less := mergeAll(classes, s.Slots, other.Slots)
-	if mergeAll(classes, s.Stack, other.Stack) {
+	less := mergeAll(joins, s.Slots, other.Slots)
+	if mergeAll(joins, s.Stack, other.Stack) {
 		less = true
 	}
 	if slices.Contains(s.Stack, Value{}) {
@@ -70,13 +70,13 @@ func (s *State) merge(classes []api.Class, other State) bool {
 	return less
 }
 
-func mergeAll(classes []api.Class, values, others []Value) bool {
+func mergeAll(joins [][]int, values, others []Value) bool {
 	less := false
 	for k, v := range values {
 		if v == others[k] {
 			continue
 		}
-		values[k] = both(classes, v, others[k])
+		values[k] = both(joins, v, others[k])
 		if values[k] != v {
 			less = true
 		}

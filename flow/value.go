@@ -1,10 +1,7 @@
 // Package flow has what checks have alike in both forms of code: what is known of values, the states of instructions, and which one leads where (doc/05-scheck.md, doc/08-rcheck.md).
 package flow
 
-import (
-	"crosswalk/api"
-	"crosswalk/hier"
-)
+import "crosswalk/api"
 
 // Value is what a state says of a value, or of a slot: mostly a type; without a kind it is anything.
 type Value api.Type
@@ -44,7 +41,7 @@ func (v Value) MustBe(kind int) Value {
 }
 
 // both answers what two that say not the same say together.
-func both(classes []api.Class, v, w Value) Value {
+func both(joins [][]int, v, w Value) Value {
 	switch {
 	case v.Kind != api.KRef || w.Kind != api.KRef:
 		return Value{}
@@ -53,5 +50,5 @@ func both(classes []api.Class, v, w Value) Value {
 	case w == Nothing():
 		return v
 	}
-	return Ref(hier.Join(classes, v.Class, w.Class))
+	return Ref(joins[v.Class][w.Class])
 }

@@ -193,6 +193,25 @@ func TestB2Join(t *testing.T) {
 	}
 }
 
+func TestB2JoinsOfAllPairs(t *testing.T) {
+	for _, l := range tables() {
+		all := hier.Joins(l)
+		if len(all) != len(l) {
+			t.Fatalf("%d rows of %v", len(all), l)
+		}
+		for c, row := range all {
+			if len(row) != len(l) {
+				t.Fatalf("%d in the row %d of %v", len(row), c, l)
+			}
+			for d, got := range row {
+				if want := hier.Join(l, c, d); got != want {
+					t.Errorf("Joins(%v) of %d and %d: got %d, want %d", l, c, d, got, want)
+				}
+			}
+		}
+	}
+}
+
 func TestB2ByHand(t *testing.T) {
 	l := under(-1, 0, 1, 1, 3, 0)
 	for _, x := range []struct {
@@ -275,6 +294,9 @@ func TestB2ClassesThatMayNotBe(t *testing.T) {
 	}
 	for _, l := range bad {
 		checkMay(t, false, l)
+		if got := hier.Joins(l); len(got) != 0 {
+			t.Errorf("Joins(%v): got %v", l, got)
+		}
 		for c := -2; c <= len(l)+1; c++ {
 			for d := -2; d <= len(l)+1; d++ {
 				checkNothing(t, l, c, d)
