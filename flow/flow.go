@@ -60,6 +60,11 @@ func (w *Flow) Through(do func(api.Ins)) bool {
 	})
 }
 
+// States answers the state of each instruction, when all has been gone through: nil where nothing leads to one.
+func (w *Flow) States() []*State {
+	return w.states
+}
+
 // Lead leads to an instruction in the state as it is now.
 func (w *Flow) Lead(at int) {
 	w.LeadWith(at, w.Stack...)

@@ -228,3 +228,25 @@ func TestCheck(t *testing.T) {
 		}
 	}
 }
+
+// The states are what is known when all is done, of both ways together; what nothing leads to has none.
+func TestStates(t *testing.T) {
+	w := newFlow(4, api.Type{Kind: api.KInt})
+	w.Through(func(api.Ins) {
+		switch w.At {
+		case 0:
+			w.LeadWith(3, flow.Ref(5))
+			w.LeadNext()
+		case 1:
+			w.Write(0, flow.Long())
+			w.LeadWith(3, flow.Ref(6))
+		}
+	})
+	l := w.States()
+	if len(l) != 4 || l[0] == nil || l[1] == nil || l[2] != nil || l[3] == nil {
+		t.Fatalf("got %v", l)
+	}
+	if l[1].Slots[0] != flow.Int() || l[3].Slots[0] != (flow.Value{}) || !slices.Equal(l[3].Stack, []flow.Value{flow.Ref(4)}) || len(l[0].Stack) != 0 {
+		t.Errorf("got %+v %+v %+v", l[0], l[1], l[3])
+	}
+}
