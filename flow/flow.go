@@ -8,17 +8,21 @@ import (
 	"crosswalk/span"
 )
 
-// Check answers the fault of a file that is asked whether it may be, and of each of its methods whether that is sound.
-func Check(f api.File, may func(api.File) bool, sound func(api.File, api.Method) bool) api.Fault {
+// Check answers the states of each method of a file that is asked whether it may be, or the fault of that file.
+// They are what through finds out of a method, which answers false where that could get stuck.
+func Check(f api.File, may func(api.File) bool, through func(api.File, api.Method) ([]*State, bool)) ([][]*State, api.Fault) {
 	if !may(f) {
-		return api.Fault{Code: api.ErrForm}
+		return nil, api.Fault{Code: api.ErrForm}
 	}
+	all := make([][]*State, len(f.Methods))
 	for k, m := range f.Methods {
-		if !sound(f, m) {
-			return api.Fault{Code: api.ErrKind, Method: k}
+		states, ok := through(f, m)
+		if !ok {
+			return nil, api.Fault{Code: api.ErrKind, Method: k}
 		}
+		all[k] = states
 	}
-	return api.Fault{}
+	return all, api.Fault{}
 }
 
 // Flow goes through a method.
@@ -47,9 +51,9 @@ func New(classes []api.Class, m api.Method, slots int) *Flow {
 }
 
 // Through does each instruction that can be come to, and does it again where less is known than it was done with.
-// It answers false, if that gave up.
-func (w *Flow) Through(do func(api.Ins)) bool {
-	return holds(func() {
+// It answers the state of each one, nil where nothing leads to it; false, if it gave up.
+func (w *Flow) Through(do func(api.Ins)) ([]*State, bool) {
+	ok := holds(func() {
 		w.Lead(0)
 		for len(w.waiting) > 0 {
 			w.At = w.waiting[0]
@@ -58,11 +62,10 @@ func (w *Flow) Through(do func(api.Ins)) bool {
 			do(w.Method.Code[w.At])
 		}
 	})
-}
-
-// States answers the state of each instruction, when all has been gone through: nil where nothing leads to one.
-func (w *Flow) States() []*State {
-	return w.states
+	if !ok {
+		return nil, false
+	}
+	return w.states, true
 }
 
 // Lead leads to an instruction in the state as it is now.

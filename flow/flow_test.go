@@ -18,12 +18,13 @@ func newFlow(code int, params ...api.Type) *flow.Flow {
 
 // through goes on with the next instruction, when each one is done.
 func through(w *flow.Flow, do func()) bool {
-	return w.Through(func(api.Ins) {
+	_, ok := w.Through(func(api.Ins) {
 		do()
 		if w.At+1 < len(w.Method.Code) {
 			w.LeadNext()
 		}
 	})
+	return ok
 }
 
 func TestParametersInTheirSlots(t *testing.T) {
@@ -89,8 +90,8 @@ func TestALongTakesSlotsFromOthers(t *testing.T) {
 func TestWhatLeadsNowhereGivesUp(t *testing.T) {
 	for _, to := range []int{-1, 2, 3} {
 		w := newFlow(2)
-		if w.Through(func(api.Ins) { w.Lead(to) }) {
-			t.Errorf("went to %d", to)
+		if l, ok := w.Through(func(api.Ins) { w.Lead(to) }); ok || len(l) > 0 {
+			t.Errorf("went to %d: %v", to, l)
 		}
 	}
 }
@@ -110,7 +111,7 @@ func TestWhatNothingLeadsToIsNotDone(t *testing.T) {
 func TestBranchLeadsBothWays(t *testing.T) {
 	w := newFlow(4)
 	var done []int
-	ok := w.Through(func(api.Ins) {
+	_, ok := w.Through(func(api.Ins) {
 		done = append(done, w.At)
 		if w.At == 0 {
 			w.Branch(3)
@@ -120,7 +121,7 @@ func TestBranchLeadsBothWays(t *testing.T) {
 		t.Errorf("%v, done: %v", ok, done)
 	}
 	w = newFlow(2)
-	if w.Through(func(api.Ins) { w.Branch(w.At) }) {
+	if _, ok := w.Through(func(api.Ins) { w.Branch(w.At) }); ok {
 		t.Error("the last one has no next one")
 	}
 }
@@ -156,7 +157,7 @@ func TestDoneAgainWhereLessIsKnown(t *testing.T) {
 	var seen []flow.Value
 	// The last but one says less than all ahead of it; with the last one nothing changes any more.
 	stored := []flow.Value{flow.Nothing(), flow.Ref(5), flow.Ref(6), flow.Ref(1), flow.Int(), flow.Ref(5)}
-	ok := w.Through(func(api.Ins) {
+	_, ok := w.Through(func(api.Ins) {
 		if w.At == 1 {
 			seen = append(seen, w.Slots[0])
 		}
@@ -214,7 +215,10 @@ func TestCheck(t *testing.T) {
 	f := api.File{Methods: make([]api.Method, 3)}
 	f.Methods[1].Stack = 1
 	f.Methods[2].Stack = 1
-	sound := func(_ api.File, m api.Method) bool { return m.Stack == 0 }
+	through := func(_ api.File, m api.Method) ([]*flow.State, bool) {
+		return make([]*flow.State, m.Locals), m.Stack == 0
+	}
+	f.Methods[0].Locals = 5
 	for _, x := range []struct {
 		may  bool
 		n    int
@@ -223,8 +227,12 @@ func TestCheck(t *testing.T) {
 		{true, 1, api.Fault{}}, {true, 3, api.Fault{Code: api.ErrKind, Method: 1}}, {false, 3, api.Fault{Code: api.ErrForm}},
 	} {
 		part := api.File{Methods: f.Methods[:x.n]}
-		if got := flow.Check(part, func(api.File) bool { return x.may }, sound); got != x.want {
+		states, got := flow.Check(part, func(api.File) bool { return x.may }, through)
+		if got != x.want {
 			t.Errorf("got %+v, want %+v", got, x.want)
+		}
+		if got.Code == api.OK && (len(states) != 1 || len(states[0]) != 5) || got.Code != api.OK && len(states) > 0 {
+			t.Errorf("%+v: states %v", got, states)
 		}
 	}
 }
@@ -232,7 +240,7 @@ func TestCheck(t *testing.T) {
 // The states are what is known when all is done, of both ways together; what nothing leads to has none.
 func TestStates(t *testing.T) {
 	w := newFlow(4, api.Type{Kind: api.KInt})
-	w.Through(func(api.Ins) {
+	l, ok := w.Through(func(api.Ins) {
 		switch w.At {
 		case 0:
 			w.LeadWith(3, flow.Ref(5))
@@ -242,8 +250,7 @@ func TestStates(t *testing.T) {
 			w.LeadWith(3, flow.Ref(6))
 		}
 	})
-	l := w.States()
-	if len(l) != 4 || l[0] == nil || l[1] == nil || l[2] != nil || l[3] == nil {
+	if !ok || len(l) != 4 || l[0] == nil || l[1] == nil || l[2] != nil || l[3] == nil {
 		t.Fatalf("got %v", l)
 	}
 	if l[1].Slots[0] != flow.Int() || l[3].Slots[0] != (flow.Value{}) || !slices.Equal(l[3].Stack, []flow.Value{flow.Ref(4)}) || len(l[0].Stack) != 0 {

@@ -15,10 +15,11 @@ func TestStatesOfStacks(t *testing.T) {
 		store(0, api.KRef), pop, comeBack,
 		dup,
 		pop, comeBack), over(0, 1, 10, upper))
-	l, ok := scheck.States(file(m), m)
-	if !ok || len(l) != len(m.Code) {
-		t.Fatalf("got %v, %v", l, ok)
+	all, x := scheck.States(file(method(comeBack), m))
+	if x != (api.Fault{}) || len(all) != 2 || len(all[0]) != 1 || len(all[1]) != len(m.Code) {
+		t.Fatalf("got %v, %+v", all, x)
 	}
+	l := all[1]
 	want := map[int][]flow.Value{
 		0: {}, 1: {flow.Long()}, 2: {flow.Long(), flow.Ref(lowest)}, 3: {flow.Long(), flow.Ref(lowest), flow.Int()},
 		4: {flow.Long(), flow.Ref(lowest)}, 5: {flow.Long()}, 6: {flow.Long(), flow.Ref(upper)}, 7: {flow.Long()}, 8: {},
@@ -36,7 +37,10 @@ func TestStatesOfStacks(t *testing.T) {
 }
 
 func TestStatesOfWhatIsNotChecked(t *testing.T) {
-	if l, ok := scheck.States(file(bad()), bad()); ok || len(l) > 0 {
-		t.Errorf("got %v, %v", l, ok)
+	if l, x := scheck.States(file(method(comeBack), bad())); x != (api.Fault{Code: api.ErrKind, Method: 1}) || len(l) > 0 {
+		t.Errorf("got %v, %+v", l, x)
+	}
+	if l, x := scheck.States(api.File{}); x != (api.Fault{Code: api.ErrForm}) || len(l) > 0 {
+		t.Errorf("got %v, %+v", l, x)
 	}
 }
