@@ -1,4 +1,4 @@
-// Package remake has what is alike wherever code is made over: the file around it, and where that stands which was made of an instruction (doc/09-toreg.md, doc/10-tostack.md).
+// Package remake has what is alike wherever code is made over: the file around it, and where that stands which was made of an instruction (doc/09-toreg.md, doc/10-tostack.md, doc/11-tidy.md).
 package remake
 
 import (
